@@ -1,0 +1,1 @@
+"""Sparecount: counts of holders, left out where they are shown needless."""
