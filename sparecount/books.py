@@ -1,6 +1,7 @@
 """Books: how they are made, which names they keep to, and their places.
 
-Terms may stand hundreds within one another in what is only looked at, so
+What is of held books, too, takes an errand's term as its last item, and knows
+the terms that they alone have. Terms may stand hundreds within one another in what is only looked at, so
 everything here goes over them with a row of what is still to do instead of
 calling itself.
 """
@@ -93,17 +94,24 @@ def is_field_made(sort, thing):
     return True
 
 
+def kind_of(thing):
+    """Tell of anything the text that it begins with, as a term does, or None."""
+    if isinstance(thing, tuple) and len(thing) > 0 and isinstance(thing[0], str):
+        return thing[0]
+    return None
+
+
+def are_fields_made(sorts, fields):
+    """Tell whether fields are as many as a form has sorts, and each may stand there."""
+    return len(fields) == len(sorts) and all(
+        [is_field_made(sort, field) for sort, field in zip(sorts, fields)]
+    )
+
+
 def is_term_made(thing):
     """Tell of anything whether it is made as a plain term, but for its parts."""
-    if not isinstance(thing, tuple) or len(thing) == 0:
-        return False
-    kind = thing[0]
-    if not isinstance(kind, str) or kind not in FORMS:
-        return False
-    sorts = FORMS[kind]
-    if len(thing) != len(sorts) + 1:
-        return False
-    return all([is_field_made(sort, field) for sort, field in zip(sorts, thing[1:])])
+    kind = kind_of(thing)
+    return kind in FORMS and are_fields_made(FORMS[kind], thing[1:])
 
 
 def is_errand_made(thing):
@@ -116,30 +124,32 @@ def is_errand_made(thing):
     )
 
 
-def is_book_made(thing):
-    """Tell of anything whether it is made as a book, whatever names it has."""
+def is_made_of(thing, errand_made, term_made):
+    """Tell of anything whether it is made as a book of such errands and terms."""
     if not isinstance(thing, tuple) or not 1 <= len(thing) <= MOST_ERRANDS:
         return False
-    if not all([is_errand_made(errand) for errand in thing]):
+    if not all([errand_made(errand) for errand in thing]):
         return False
-    todo = [errand[2] for errand in thing]
+    todo = [errand[-1] for errand in thing]
     while todo:
         term = todo.pop()
-        if not is_term_made(term):
+        if not term_made(term):
             return False
         todo.extend(parts_of(term))
     return True
 
 
 def names_in(term):
-    """Tell the words that a term itself names, so that they have to be around."""
+    """Tell the words that a term itself names, those of an again but for its z."""
     kind = term[0]
-    if kind in ("name", "zero", "open"):
+    if kind in ("name", "zero", "open", "look", "keep", "loose"):
         return (term[1],)
     if kind in ("plus", "less"):
         return term[1:]
     if kind in ("box", "ask"):
         return term[2]
+    if kind == "again":
+        return term[3]
     return ()
 
 
@@ -147,66 +157,77 @@ def bound_in(term):
     """Tell the words that a term itself binds."""
     if term[0] == "let":
         return (term[1],)
-    if term[0] == "open":
+    if term[0] in ("open", "look"):
         return tuple([word for case in term[2] for word in case[1]])
     return ()
 
 
-def parts_around(term, around):
-    """Tell the parts of a term, each with the words that are around in it."""
-    if term[0] == "let":
-        return [(term[2], around), (term[3], around + (term[1],))]
-    if term[0] == "open":
-        return [(case[2], around + case[1]) for case in term[2]]
-    return [(part, around) for part in parts_of(term)]
+def parts_around(term, around, opened):
+    """Tell the parts of a term, each with the words around it, and those opened around it."""
+    kind = term[0]
+    if kind == "let":
+        return [(term[2], around, opened), (term[3], around + (term[1],), opened)]
+    if kind == "open":
+        return [(case[2], around + case[1], opened + (term[1],)) for case in term[2]]
+    if kind == "look":
+        return [(case[2], around + case[1], opened) for case in term[2]]
+    return [(part, around, opened) for part in parts_of(term)]
 
 
-def is_term_named(term, around, sizes):
+def is_term_named(term, around, opened, sizes):
     """Tell whether a term itself keeps to the names around and the errands there are."""
+    kind = term[0]
     if not all([word in around for word in names_in(term)]):
         return False
-    if term[0] == "ask":
+    if kind == "ask":
         return sizes.get(term[1]) == len(term[2])
-    if term[0] == "open":
+    if kind in ("open", "look"):
         return len(set([case[0] for case in term[2]])) == len(term[2])
+    if kind == "again":
+        return term[1] in opened
     return True
 
 
 def is_errand_named(errand, sizes):
     """Tell whether an errand keeps to its names; sizes are the errands' numbers of names."""
     bound = list(errand[1])
-    todo = [(errand[2], errand[1])]
+    todo = [(errand[-1], errand[1], ())]
     while todo:
-        term, around = todo.pop()
-        if not is_term_named(term, around, sizes):
+        term, around, opened = todo.pop()
+        if not is_term_named(term, around, opened, sizes):
             return False
         bound.extend(bound_in(term))
-        todo.extend(parts_around(term, around))
+        todo.extend(parts_around(term, around, opened))
     return len(set(bound)) == len(bound)
 
 
 def is_book_named(book):
-    """Tell whether what is made as a book keeps to its names."""
+    """Tell whether what is made as a book, plain or held, keeps to its names."""
     sizes = {errand[0]: len(errand[1]) for errand in book}
     return len(sizes) == len(book) and all([is_errand_named(errand, sizes) for errand in book])
 
 
-def is_errand_great(errand):
+def is_errand_great(errand, most_terms, most_within):
     """Tell whether an errand has too many terms, or one within too many others."""
-    places = places_of(errand)
+    places = [place for place, term in placed_terms(errand)]
     # A place has a number for each term that the one there stands within.
-    return len(places) > MOST_TERMS or max([len(place) for place in places]) - 1 > MOST_WITHIN
+    return len(places) > most_terms or max([len(place) for place in places]) - 1 > most_within
+
+
+def find_fault(thing, errand_made, term_made, most_terms, most_within):
+    """Tell of anything why it is no book of such errands, terms and sizes, or None."""
+    if not is_made_of(thing, errand_made, term_made):
+        return "shape"
+    if not is_book_named(thing):
+        return "names"
+    if any([is_errand_great(errand, most_terms, most_within) for errand in thing]):
+        return "great"
+    return None
 
 
 def why_no_book(thing):
     """Tell of anything why it is no book: "shape", "names", "great", or None."""
-    if not is_book_made(thing):
-        return "shape"
-    if not is_book_named(thing):
-        return "names"
-    if any([is_errand_great(errand) for errand in thing]):
-        return "great"
-    return None
+    return find_fault(thing, is_errand_made, is_term_made, MOST_TERMS, MOST_WITHIN)
 
 
 def need_book(thing):
@@ -228,23 +249,22 @@ def parts_of(term):
     return ()
 
 
-def places_of(errand):
-    """Tell the places of one errand, a term ahead of its parts."""
-    places = []
-    # An errand's term is its last item, in plain books and in held ones.
+def placed_terms(errand):
+    """Tell the terms of an errand, plain or held, each behind its place, in order."""
+    told = []
     todo = [((errand[0],), errand[-1])]
     while todo:
         place, term = todo.pop()
-        places.append(place)
+        told.append((place, term))
         parts = parts_of(term)
         for at in reversed(range(len(parts))):
             todo.append((place + (at,), parts[at]))
-    return places
+    return told
 
 
 def all_places(book):
     """Tell all places of a book, plain or held, in order."""
-    return [place for errand in book for place in places_of(errand)]
+    return [place for errand in book for place, term in placed_terms(errand)]
 
 
 def find_errand(book, word):

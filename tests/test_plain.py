@@ -3,20 +3,10 @@
 import copy
 import unittest
 
+from helpers import ONE, UNIT, boxes, lets, nested
 from sparecount.books import why_no_book
 from sparecount.errors import NoAsking, NoMost
 from sparecount.plain import run
-
-ONE = ("number", 1)
-UNIT = ("unit", ())
-
-
-def lets(*bound, last):
-    """A term that binds word after word, each to its term, and then does the last one."""
-    for word, term in reversed(bound):
-        last = ("let", word, term, last)
-    return last
-
 
 COUNT_DOWN = (
     "f",
@@ -56,22 +46,6 @@ LOOP = (("f", (), ("ask", "f", ())),)
 def book_of(term, names=("x", "y", "z")):
     """A book of one errand f, and of g, which gives its first name, and h, which gives 4."""
     return (("f", names, term), ("g", ("a", "b"), ("name", "a")), ("h", (), ("number", 4)))
-
-
-def nested(within, inner=UNIT):
-    """A thing that has the inner one within so many boxes."""
-    for _ in range(within):
-        inner = ("w", (inner,))
-    return inner
-
-
-def boxes(many):
-    """A thing with so many boxes, none within more than a few others."""
-    if many == 0:
-        return 0
-    left = (many - 1) // 3
-    middle = (many - 1 - left) // 2
-    return ("w", (boxes(left), boxes(middle), boxes(many - 1 - left - middle)))
 
 
 class Terms(unittest.TestCase):
