@@ -1,9 +1,9 @@
 """Books: how they are made, which names they keep to, and their places.
 
 What is of held books, too, takes an errand's term as its last item, and knows
-the terms that they alone have. Terms may stand hundreds within one another in what is only looked at, so
-everything here goes over them with a row of what is still to do instead of
-calling itself.
+the terms that they alone have. Terms may stand hundreds within one another in
+what is only looked at, so everything here goes over them with a row of what is
+still to do instead of calling itself.
 """
 
 from sparecount.errors import NoBook
@@ -247,6 +247,33 @@ def parts_of(term):
     if kind in ("keep", "loose"):
         return (term[2],)
     return ()
+
+
+def with_parts(term, parts):
+    """Tell a term, of a plain book or of a held one, with other parts in the place of its own."""
+    kind = term[0]
+    if kind in ("let", "zero", "keep", "loose"):
+        return (kind, term[1]) + tuple(parts)
+    if kind in ("open", "look"):
+        cases = [(case[0], case[1], part) for case, part in zip(term[2], parts)]
+        return (kind, term[1], tuple(cases))
+    return term
+
+
+def rebuilt(terms, remade):
+    """Tell an errand's term made anew out of its terms by places, in order.
+
+    remade tells by a place, and the term there with its parts made anew, what
+    that term becomes.
+    """
+    built = {}
+    last = None
+    for place in reversed(list(terms)):
+        term = terms[place]
+        parts = [built[place + (at,)] for at in range(len(parts_of(term)))]
+        last = remade(place, with_parts(term, parts))
+        built[place] = last
+    return last
 
 
 def placed_terms(errand):
