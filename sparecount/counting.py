@@ -118,7 +118,7 @@ class Count:
         """Tell the names that are kept ahead of a term, as often as they are."""
         handed = self.handed_words(place)
         kept = [name for name in self.owned[place] if self.is_opened_and_named(place, name)]
-        for word in {word: True for word in handed}:
+        for word in {first: True for first in handed}:
             kept.extend([word] * self.keeps_needed(place, word, handed.count(word)))
         return kept
 

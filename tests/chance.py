@@ -63,7 +63,10 @@ class Maker:
             return self.last(around, sort)
         kind = self.chance.choice(("let", "let", "let", "zero", "open", "open"))
         if kind == "open" and self.pick(around, "b"):
-            return ("open", self.pick(around, "b") or around[0][0], self.cases(around, sort, within))
+            name = self.pick(around, "b") or around[0][0]
+            # What is opened is mostly not needed any more, so that it is freed.
+            needed = [pair for pair in around if pair[0] != name or self.odds(0.3)]
+            return ("open", name, self.cases(needed, sort, within))
         if kind == "zero" and self.pick(around, "n"):
             name = self.pick(around, "n") or around[0][0]
             return ("zero", name, self.term(around, sort, within + 1), self.term(around, sort, within + 1))
@@ -126,3 +129,32 @@ class Maker:
 
     def marks(self, book):
         return tuple([tuple([self.odds(0.5) for _ in errand[1]]) for errand in book])
+
+
+class Rebuilder(Maker):
+    """Makes a book whose errands open a box and make another one of its parts, as most that is done in place does."""
+
+    def book(self):
+        for word in ERRANDS[:self.chance.choice((1, 2, 3))]:
+            self.asked[word] = ("b", "b")
+        return tuple([self.errand(at, word) for at, word in enumerate(self.asked)])
+
+    def term(self, around, sort, within):
+        return ("open", around[0][0], tuple([self.rebuilt_case(word) for word in BOXES]))
+
+    def rebuilt_case(self, word):
+        names = [self.new_name() for _ in BOXES[word]]
+        asked = [self.new_name() if its == "b" and self.odds(0.6) else None for its in BOXES[word]]
+        parts = [other or name for name, other in zip(names, asked)]
+        term = self.rebuilt_box(word, parts)
+        for name, other in zip(names, asked):
+            if other:
+                term = ("let", other, ("ask", self.chance.choice(list(self.asked)), (name,)), term)
+        return (word, tuple(names), term)
+
+    def rebuilt_box(self, word, parts):
+        """What a case ends with: a box of its parts, or that one within others, or ahead of others."""
+        box = ("box", word, tuple(parts))
+        name = self.new_name()
+        last = self.chance.choice((box, box, ("box", "s", (name,)), ("box", "e", ()), ("name", name)))
+        return last if last == box else ("let", name, box, last)

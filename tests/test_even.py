@@ -229,6 +229,8 @@ class Ways(Told):
 
     def test_ways_of_ends_within_ends(self):
         self.uneven("f x &n = let y be zero n {1} else {zero n {1} else {loose x; 2}} in 1")
+        self.uneven("f x &n = let y be zero n {zero n {1} else {loose x; 2}} else {3} in 1")
+        self.uneven("f x &n = let y be look n {w: zero n {1} else {loose x; 2}; v: 3} in 1")
         self.uneven("f x &n = let y be let z be hide() in zero n {z} else {loose z; x} in y")
         self.even("f x &n = let y be let z be hide() in zero n {loose x; z} else {loose z; x} in y")
 

@@ -206,6 +206,8 @@ class NewWords(Counted):
 
     def test_words_that_the_errand_has_already_are_skipped(self):
         self.said("f qa = peek(qa)", "f qa = let qb be peek(qa) in loose qa; qb")
+        self.said("f qa x = peek(x)", "f qa x = loose qa; let qb be peek(x) in loose x; qb")
+        self.said("f &qa x = peek(x)", "f &qa x = let qb be peek(x) in loose x; qb")
         self.said("f x = let qa be 1 in peek(x)", "f x = let qa be 1 in let qb be peek(x) in loose x; qb")
         self.said("f x = open x {w qa: peek(qa)}", "f x = open x {w qa: let qb be peek(qa) in loose qa; qb}")
         self.said("f x = open x {qa a: peek(a)}", "f x = open x {qa a: let qb be peek(a) in loose a; qb}")
