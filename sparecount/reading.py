@@ -1,10 +1,11 @@
 """How the errands of plain books are read, each from a line.
 
-Read is just what such an errand is written as, sign by sign; whether names and
-sizes are those of a book isn't asked here.
+Read is just what such an errand is written as, sign by sign, of words and numbers
+that there are; how many words and cases stand there, whether names are those of a
+book, and whether it is too great isn't asked here.
 """
 
-from sparecount.books import GREATEST_NUMBER, LANGUAGE_WORDS
+from sparecount.books import is_word
 from sparecount.errors import NoText
 
 LETTERS = "abcdefghijklmnopqrstuvwxyz"
@@ -79,17 +80,17 @@ class Begun:
 
 
 def need_name(letters):
-    """Refuse with NoText letters that aren't to be read as a word, however many they are."""
-    if letters == "" or letters in LANGUAGE_WORDS:
+    """Refuse with NoText letters that are no word, none at all likewise."""
+    if not is_word(letters):
         raise NoText("a word has to stand here")
 
 
 def number_of(figures):
-    """Tell the number term of some figures; of too many of them it is one too great, whichever they are."""
+    """Tell the number term of some figures, or refuse with NoText those that no number is written with."""
+    if len(figures) > MOST_FIGURES:
+        raise NoText("a number is too great")
     if len(figures) > 1 and figures[0] == "0":
         raise NoText("a number has a 0 ahead")
-    if len(figures) > MOST_FIGURES:
-        return ("number", GREATEST_NUMBER + 1)
     return ("number", int(figures))
 
 

@@ -1,6 +1,7 @@
 """Books as texts: plain and held ones are written, plain ones are read."""
 
-from sparecount.books import need_book
+from sparecount.books import why_no_book
+from sparecount.errors import NoBook, NoText
 from sparecount.reading import read_errand
 
 
@@ -78,5 +79,10 @@ def show_held(held):
 def read_book(text):
     """Tell the plain book that a text is written as, or refuse it with NoText, then with NoBook."""
     book = tuple([read_errand(line) for line in text.split("\n")])
-    need_book(book)
+    fault = why_no_book(book)
+    # What isn't made as a book is the text's fault: no book is written so.
+    if fault == "shape":
+        raise NoText("there are too many words, cases or errands")
+    if fault is not None:
+        raise NoBook(fault)
     return book

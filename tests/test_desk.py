@@ -56,11 +56,14 @@ class Book(Seated):
 
     def test_texts_that_are_refused(self):
         self.refused(NoText, "book\n", "book\n\nf = 1", "book\nf = 1\n", "book\nf  = 1", "book\n f = 1", "book\nf = 01")
-        self.refused(NoBook, "book\nf = x", "book\nf = 1000", "book\nf = " + "9" * 5000)
+        self.refused(
+            NoText, "book\nf = 1000", "book\nf = " + "9" * 5000, "book\nabcdefghi = 1", "book\nf a b c d e = 1",
+            "book\nf x = box w(x, x, x, x)", "book\nf x x = 1\ng = 1000", "book" + "\nf = 1" * 7,
+        )
+        self.refused(NoBook, "book\nf = x", "book\nf x x = 1")
 
     def test_the_fault_of_what_is_no_book(self):
-        for text, fault in (("f = x", "names"), ("f = 1000", "shape"), ("f x = " + "zero x {" * 20 + "1"
-                                                                      + "} else {2}" * 20, "great")):
+        for text, fault in (("f = x", "names"), ("f x = " + "zero x {" * 20 + "1" + "} else {2}" * 20, "great")):
             with self.assertRaises(NoBook) as caught:
                 self.desk.say("book\n" + text)
             self.assertEqual(caught.exception.fault, fault)
@@ -68,7 +71,7 @@ class Book(Seated):
     def test_what_is_refused_changes_nothing(self):
         for row, error in (
             ("book\nf = ", NoText), ("book\nf = x", NoBook), ("book", NoRow), ("run f", NoAsking), ("fewer", NoRow),
-            ("run both 1 2 3", NoAsking), ("", NoRow),
+            ("run both 1 2 3", NoAsking), ("", NoRow), ("book\nf = 1000", NoText), ("book\nf a b c d e = 1", NoText),
         ):
             self.refused(error, row)
             self.told({"run both 1 2": "done 999", "run sum 1": "stuck"})
@@ -196,7 +199,7 @@ class NoBookYet(unittest.TestCase):
                 Desk().say(row)
 
     def test_no_stand_behind_a_book_that_was_refused(self):
-        for row, error in (("book\nf = ", NoText), ("book\nf = x", NoBook)):
+        for row, error in (("book\nf = ", NoText), ("book\nf = 1000", NoText), ("book\nf = x", NoBook)):
             mine = Desk()
             with self.assertRaises(error):
                 mine.say(row)

@@ -297,6 +297,45 @@ class NotRead(unittest.TestCase):
             self.terms_refused(text)
 
 
+class NotSoMade(unittest.TestCase):
+    """Texts that only something of another shape than 4 tells would be written as."""
+
+    # Texts of the most that 4 tells, and what at their {} is a figure, letter, word, case or errand too many.
+    ONE_MORE = (
+        ("f = 999{}", "0"), ("f x = let y be 100{} in y", "1"), ("f x = zero x {{1}} else {{888{}}}", "8"),
+        ("abcdefgh{} = 1", "i"), ("f abcdefgh{} = 1", "i"), ("f x = abcdefgh{}()\nabcdefgh = 1", "i"),
+        ("f x = box abcdefgh{}(x)", "i"), ("f x = let abcdefgh{} be 1 in 2", "i"),
+        ("f x = open x {{abcdefgh{}: 1}}", "i"), ("f x = open x {{w abcdefgh{}: 1}}", "i"),
+        ("f a b c d{} = 1", " e"), ("f x = box w(x, x, x{})", ", x"), ("f x = g(x, x, x, x{})\ng a b c d = 1", ", x"),
+        ("f x = open x {{w a b c{}: 1}}", " d"), ("f x = open x {{w: 1; v a b c{}: 1}}", " d"),
+        ("f x = open x {{a: 1; b: 2; c: 3; d: 4{}}}", "; e: 5"),
+        ("f x = let y be open x {{a: 1; b: 2; c: 3; d: 4{}}} in y", "; e: 5"),
+        ("a = 1\nb = 1\nc = 1\nd = 1\ne = 1\nf = 1{}", "\ng = 1"),
+    )
+
+    def test_the_most_and_one_more(self):
+        for text, more in self.ONE_MORE:
+            with self.subTest(text=text):
+                self.assertEqual(show_book(read_book(text.format(""))), text.format(""))
+                with self.assertRaises(NoText):
+                    read_book(text.format(more))
+
+    def test_what_is_written_of_another_shape(self):
+        w, x = ("w", "v", "u", "t", "s"), ("name", "x")
+        for term in (
+            ("number", 1000), ("number", -1), ("name", "abcdefghi"), ("name", "keep"), ("name", ""),
+            ("plus", "x", "abcdefghi"), ("less", "X", "x"), ("box", "w", ("x",) * 4), ("box", "abcdefghi", ()),
+            ("ask", "f", ("x",) * 5), ("let", "in", ONE, ONE), ("zero", "y" * 9, ONE, ONE), ("open", "x", ()),
+            ("open", "x", tuple((word, (), ONE) for word in w)), ("open", "x", (("w", w[:4], ONE),)),
+            ("open", "x", (("w", w[:3], ("number", 1000)),)),
+        ):
+            for around in (term, ("let", "y", term, x), ("let", "y", x, term), ("zero", "x", ONE, term)):
+                book = (("f", ("x",), around),)
+                with self.subTest(term=around), self.assertRaises(NoText):
+                    self.assertEqual(why_no_book(book), "shape")
+                    read_book(show_book(book))
+
+
 class Sizes(unittest.TestCase):
     """Texts of great and of endless terms."""
 
@@ -333,11 +372,10 @@ class Sizes(unittest.TestCase):
 
     def test_many_figures(self):
         for many in (4, 5, 899, 1000, 4301, 14000):
-            self.assertEqual(self.fault("f = " + "9" * many), "shape")
-            self.assertEqual(self.fault("f = " + "1" + "0" * (many - 1)), "shape")
+            self.assertEqual(self.fault("f = " + "9" * many), "text")
+            self.assertEqual(self.fault("f = " + "1" + "0" * (many - 1)), "text")
             self.assertEqual(self.fault("f = " + "0" * many), "text")
             self.assertEqual(self.fault("f = " + "7" * many + "x"), "text")
-        self.assertEqual(self.fault("f = 1000"), "shape")
         self.assertEqual(read_book("f = 999"), (("f", (), ("number", 999)),))
 
     def test_many_letters(self):
@@ -347,7 +385,7 @@ class Sizes(unittest.TestCase):
                 "{} = 1", "f {} = 1", "f = box {}()", "f = {}()", "f x = {}", "f = let {} be 1 in 2", "f x = x + {}",
                 "f x = open x {{{}: 1}}", "f x = open x {{w {}: 1}}", "f x = zero {} {{1}} else {{2}}",
             ):
-                self.assertEqual(self.fault(text.format(word)), "shape")
+                self.assertEqual(self.fault(text.format(word)), "text")
 
     def test_thousands_of_brackets_and_words_that_open(self):
         for text in (
@@ -362,11 +400,11 @@ class Sizes(unittest.TestCase):
         self.assertEqual(self.fault("let x be " * 1600), "text")
 
     def test_thousands_of_words_and_errands(self):
-        self.assertEqual(self.fault("f" + " x" * 7000 + " = 1"), "shape")
-        self.assertEqual(self.fault("f x = f(" + "x, " * 4500 + "x)"), "shape")
-        self.assertEqual(self.fault("f x = box w(" + "x, " * 4500 + "x)"), "shape")
-        self.assertEqual(self.fault("f x = open x {" + "w: 1; " * 2000 + "w: 1}"), "shape")
-        self.assertEqual(self.fault("\n".join(["f = 1"] * 2400)), "shape")
+        self.assertEqual(self.fault("f" + " x" * 7000 + " = 1"), "text")
+        self.assertEqual(self.fault("f x = f(" + "x, " * 4500 + "x)"), "text")
+        self.assertEqual(self.fault("f x = box w(" + "x, " * 4500 + "x)"), "text")
+        self.assertEqual(self.fault("f x = open x {" + "w: 1; " * 2000 + "w: 1}"), "text")
+        self.assertEqual(self.fault("\n".join(["f = 1"] * 2400)), "text")
         self.assertEqual(self.fault("\n" * 14000), "text")
 
 
@@ -376,13 +414,6 @@ class NoBooks(unittest.TestCase):
             with self.subTest(text=text), self.assertRaises(NoBook) as caught:
                 read_book(text)
             self.assertEqual(caught.exception.fault, fault)
-
-    def test_shape(self):
-        self.told(
-            "shape", "f = 1000", "f a b c d e = 1", "f a = box w(a, a, a, a)", "f a = f(a, a, a, a, a)",
-            "f x = open x {a: 1; b: 2; c: 3; d: 4; e: 5}", "f x = open x {w a b c d: 1}", "abcdefghi = 1",
-            "f x = abcdefghi", "a = 1\nb = 1\nc = 1\nd = 1\ne = 1\nf = 1\ng = 1",
-        )
 
     def test_names(self):
         self.told(
@@ -399,7 +430,12 @@ class NoBooks(unittest.TestCase):
                   + "zero x {1} else {" * 10 + "1" + "}" * 10 + "}")
 
     def test_no_text_is_ahead_of_no_book(self):
-        for text in ("f = 1000\n", "f a b c d e = 01", "f = x ", "f x x = X", "abcdefghi = &", "f = y\ng = "):
+        great = within(13)[0]
+        for text in (
+            "f = x ", "f x x = X", "f = y\ng = ", "f x x = 1\ng = 1000", "g = 1000\nf x x = 1", "f x x = 1000",
+            "f x = box w(y, x, x, x)", "f = 1\nf = abcdefghi()", "f x = open x {w: 1; w: 1000}",
+            great + "\ng = 1000", "g a b c d e = 1\n" + great, great.replace("1", "1000"), great + "\n",
+        ):
             with self.subTest(text=text), self.assertRaises(NoText):
                 read_book(text)
 
